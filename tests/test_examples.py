@@ -2,32 +2,112 @@
 
 import unittest
 
-from holegates.checks import are_signs, first_twice, is_integer, is_name, is_sign, is_within
-from holegates.papers import Denial, Paper, fixed
+from holegates import checks, errors, nets, papers, tables, tasks, wires
 
-NAMES = {
-    "are_signs": are_signs, "first_twice": first_twice, "is_integer": is_integer, "is_name": is_name,
-    "is_sign": is_sign, "is_within": is_within, "Denial": Denial, "Paper": Paper, "fixed": fixed,
-}
+MODULES = (errors, checks, papers, tables, nets, wires, tasks)
 
-CHECKS = """\
+# The order is that of the document: an example uses names as earlier ones made them last.
+EXAMPLES = {
+    "checks": """\
 >>> [is_integer(True), is_within(3, None, 3), is_sign(1), is_sign(True), are_signs([0, 1]), are_signs("01"), is_name("a7"), is_name("A"), first_twice([2, 1, 2, 1])]
 [False, True, True, False, True, False, True, False, 2]
-"""
-
-PAPERS = """\
+""",
+    "papers": """\
 >>> [fixed([1, [None, (2, [])], "a"]), bool(Paper("note", [1])), bool(Denial("note")), Paper("note", [1]) == Paper("note", (1,)), Paper("note", 1) == Denial("note", 1)]
 [(1, (None, (2, ())), 'a'), True, False, True, False]
-"""
+""",
+    "tables": """\
+>>> [is_table((0, 1, 1, 0)), is_table([1]), is_table((0, 1, 1)), is_table((0, True)), places_of((0, 1, 1, 0)), row_of((1, 0)), row_of(()), setting_of(3, 5)]
+[True, True, False, False, 2, 2, 0, (1, 0, 1)]
+>>> odd = (0, 1, 1, 0)
+>>> [contrary(odd), both(odd, (0, 0, 1, 1)), either(odd, [0, 0, 0, 1]), unlike((0, 0, 1, 1), (0, 1, 0, 1)), sign_at(odd, (1, 0))]
+[(1, 0, 0, 1), (0, 0, 1, 0), (0, 1, 1, 1), (0, 1, 1, 0), 1]
+>>> [with_sign(odd, 0, 1), for_some((0, 0, 0, 1), 1), for_all((0, 1, 1, 1), 0), hangs_on((0, 0, 1, 1)), follows((0, 0, 0, 1), (0, 1, 1, 1)), follows(odd, (0, 0, 1, 1))]
+[(1, 0), (0, 1), (0, 1), (0,), True, False]
+>>> [in_order((0, 0, 1, 0), [1, 0]), put_in(odd, [(0, 0, 1, 1), (0, 1, 0, 1)]), put_in((0, 0, 0, 1), [odd, (1, 1, 0, 0)]), put_in((1,), [])]
+[(0, 1, 0, 0), (0, 1, 1, 0), (0, 1, 0, 0), (1,)]
+>>> [table_text(odd), read_table("10")]
+['0110', (1, 0)]
+>>> read_table("011")
+raises BadText(0, 0)
+>>> both((0, 1), odd)
+raises Misfit('places')
+>>> for_some((0, 1), 1)
+raises NoPlace(1)
+""",
+    "nets": """\
+>>> net = Net(["a", "b"], [("h", ["a", "b"], None), ("n", ["a"], (1, 0)), ("out", ["h", "n"], [0, 1, 1, 0])])
+>>> [str(net), net.wires, net.holes, Net.read(str(net)) == net]
+['a b : h ? a b / n 10 a / out 0110 h n', ('a', 'b', 'h', 'n', 'out'), ('h',), True]
+>>> [net.sources("out"), net.behind("a"), net.behind("b"), net.is_sure("n"), net.is_sure("h"), net.is_sure("out")]
+[('h', 'n'), ('h', 'n', 'out'), ('h', 'out'), True, False, False]
+>>> whole = net.put("h", [0, 0, 0, 1])
+>>> [str(whole), str(whole.struck("out")), str(whole.struck("out", ["b"])), net.struck("n").holes]
+['a b : h 0001 a b / n 10 a / out 0110 h n', 'a b : h 0001 a b / n 10 a / out ? h n', 'a b : h 0001 a b / n 10 a / out ? b', ('h', 'n')]
+>>> net.struck("out")
+raises Misfit('sure')
+>>> Net(["a"], [("b", ["c"], (0, 1)), ("a", [], (1,))])
+raises Twice('a')
+>>> Net.read("a : h ? a / k ? h")
+raises BadText(0, 8)
+>>> Net.read("a b : c 0110 a")
+raises BadText(0, 6)
+""",
+    "wires": """\
+>>> [run(net, 2, [1]), run(net, 0, (0,)), column(net, "n"), column(net, "b")]
+[(1, 0, 1, 0, 1), (0, 0, 0, 1, 1), (1, 1, 0, 0), (0, 1, 0, 1)]
+>>> [same_wire(whole, Net.read("a b : out 1101 a b"), "out").word, same_wire(whole, Net.read("a b : out 1001 b a"), "out").parts]
+['alike', (1,)]
+>>> column(net, "out")
+raises Misfit('hole')
+""",
+    "tasks": """\
+>>> net = Net.read("a b : n 10 a / h ? a n / k ? b / x 0110 h k / out 0111 x a")
+>>> task = Task(net, "out")
+>>> [task.many, task.holes, task.sights, [task.view(0, row) for row in range(4)], task.unknowns()]
+[4, ('h', 'k'), (('a', 'n'), ('b',)), [1, 1, 2, 2], ((0, 1), (0, 2), (1, 0), (1, 1))]
+>>> [task.right_choices(0), task.right_choices(3)]
+[((0, 1), (1, 0)), ((0, 0), (0, 1), (1, 0), (1, 1))]
+>>> some = [[0, 1, 0, 0], [0, 0]]
+>>> [task.choice(some, 1), task.is_right(some), task.first_wrong([[0, 1, 0, 0], [0, 1]]), task.plain([[1, 1, 1, 1], [0, 0]])]
+[(1, 0), True, 1, ((0, 1, 1, 0), (0, 0))]
+>>> [str(task.filled(some)), task.with_hole(1, [0, 0]).right_choices(1), Task(net, "b").right_choices(0)]
+['a b : n 10 a / h 0100 a n / k 00 b / x 0110 h k / out 0111 x a', ((1,),), ()]
+>>> task.is_right([[0, 1, 0, 0]])
+raises BadFilling('filling')
+""",
+}
+
+
+def steps(example):
+    """The lines with a prompt, each with the line that tells what comes, if there is one."""
+    found = []
+    for line in example.splitlines():
+        if line.startswith(">>> "):
+            found.append([line.removeprefix(">>> "), None])
+        else:
+            found[-1][1] = line
+    return found
 
 
 class Examples(unittest.TestCase):
-    def assert_holds(self, example):
-        asked, told = example.splitlines()
-        self.assertEqual(repr(eval(asked.removeprefix(">>> "), dict(NAMES))), told)
+    def assert_holds(self, asked, told, names):
+        if told is None:
+            exec(asked, names)
+        elif told.startswith("raises "):
+            expected = eval(told.removeprefix("raises "), names)
+            with self.assertRaises(errors.HoleError) as caught:
+                eval(asked, names)
+            self.assertIs(type(caught.exception), type(expected))
+            self.assertEqual(repr(vars(caught.exception)), repr(vars(expected)))
+        else:
+            self.assertEqual(repr(eval(asked, names)), told)
 
-    def test_checks(self):
-        self.assert_holds(CHECKS)
-
-    def test_papers(self):
-        self.assert_holds(PAPERS)
+    def test_all_sections(self):
+        names = {}
+        for module in MODULES:
+            names.update(vars(module))
+        for section, example in EXAMPLES.items():
+            for asked, told in steps(example):
+                with self.subTest(section=section, asked=asked):
+                    self.assert_holds(asked, told, names)
