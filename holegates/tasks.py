@@ -1,7 +1,7 @@
 """Tasks: nets with holes, and a wire of theirs that shall be 1 at all rows."""
 
 from holegates.checks import is_within
-from holegates.errors import BadFilling, NoHole
+from holegates.errors import BadFilling, BadTask, NoHole
 from holegates.nets import need_net, need_wire
 from holegates.tables import count_places, is_table, setting_of, told_in_twos
 from holegates.wires import any_choice, count_rows, need_row, signs_at
@@ -90,6 +90,12 @@ class Task:
 
     def _is_right_at(self, row, choice):
         return signs_at(self.net, row, choice)[self.wish] == 1
+
+
+def need_task(value, part):
+    """Raises BadTask with this part for what is no task."""
+    if not isinstance(value, Task):
+        raise BadTask(part)
 
 
 def is_filling(task, value):

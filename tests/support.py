@@ -1,10 +1,15 @@
-"""What several tests use: wrong values of all kinds, errors compared by their fields, nets by the drawing."""
+"""What several tests use: wrong values of all kinds, errors compared by their fields, nets and tasks by the drawing."""
 
 import itertools
 import random
 import unittest
 
+from holegates.ladders import Plan, Trap
 from holegates.nets import Net
+from holegates.papers import Denial, Paper
+from holegates.single import Between, Clash
+from holegates.tasks import Task
+from holegates.wires import Alike, Unlike
 
 HUGE = 10 ** 99
 NAMES_OF_INPUTS = ("a", "b", "c", "d", "e", "f")
@@ -180,3 +185,193 @@ def greatest_net():
         gates.append((f"gate{at}", sources, table))
         names.append(f"gate{at}")
     return Net(NAMES_OF_INPUTS, gates)
+
+
+def some_tasks(many, seed, **bounds):
+    """Small tasks, some with a wish that is an input, a hole or a sure gate."""
+    chooser = random.Random(seed)
+    return [Task(net, chooser.choice(net.wires[-3:])) for net in some_nets(many, seed, **bounds)]
+
+
+def told_task(inputs, holes, is_right):
+    """The task of these holes, pairs of a name and its sources, with the choices right that are told to be.
+
+    is_right takes a setting of the inputs and a choice; there are six inputs and holes together at most.
+    """
+    inputs = NAMES_OF_INPUTS[:inputs]
+    names = [name for name, _ in holes]
+    signs = [int(is_right(told[:len(inputs)], told[len(inputs):])) for told in settings(len(inputs) + len(names))]
+    gates = [(f"n{at}", (name,), (1, 0)) for at, name in enumerate(inputs)]
+    gates += [(name, sources, None) for name, sources in holes]
+    return Task(Net(inputs, [*gates, ("out", (*inputs, *names), signs)]), "out")
+
+
+def nested_task(chooser, inputs, holes):
+    """A task with nested sights, the holes and the sources of each in any order, and any choices right."""
+    wires = [*NAMES_OF_INPUTS[:inputs], *[f"n{at}" for at in range(inputs)]]
+    sights = [[]]
+    for _ in range(holes):
+        more = [wire for wire in wires if wire not in sights[-1]]
+        sights.append(sights[-1] + chooser.sample(more, min(len(more), chooser.choice((0, 0, 1, 1, 2)))))
+    order = chooser.sample(range(1, holes + 1), holes)
+    drawn = [(f"h{at}", chooser.sample(sights[at], len(sights[at]))) for at in order]
+    often = chooser.choice((0.5, 0.7, 0.85, 0.95))
+    return told_task(inputs, drawn, lambda setting, choice: chooser.random() < often)
+
+
+def nested_tasks(many, seed, most_unknowns=9):
+    """Many small tasks with nested sights, always the same."""
+    chooser = random.Random(seed)
+    found = []
+    while len(found) < many:
+        inputs = chooser.randint(1, 3)
+        task = nested_task(chooser, inputs, chooser.randint(1, min(4, 6 - inputs)))
+        if len(Drawn(task).unknowns) <= most_unknowns:
+            found.append(task)
+    return found
+
+
+def drawn_view(task, hole, row):
+    """What the hole sees at the row, as the drawing tells it."""
+    setting = settings(len(task.net.inputs))[row]
+    return in_twos([drawn_sign(task.net, setting, (0,) * len(task.holes), name) for name in task.sights[hole]])
+
+
+def drawn_right(task, choice, row):
+    """Whether the choice is right at the row, as the drawing tells it."""
+    return drawn_sign(task.net, settings(len(task.net.inputs))[row], choice, task.wish) == 1
+
+
+class Drawn:
+    """A task as the drawing tells it, gone through once: what the answers of the package are compared with."""
+
+    def __init__(self, task):
+        self.many = 2 ** len(task.net.inputs)
+        self.sights = [sources for _, sources, table in task.net.gates if table is None]
+        self.holes = range(len(self.sights))
+        self.choices = settings(len(self.sights))
+        self.views = [tuple(drawn_view(task, hole, row) for hole in self.holes) for row in range(self.many)]
+        self.right = [
+            [choice for choice in self.choices if drawn_right(task, choice, row)] for row in range(self.many)
+        ]
+        self.unknowns = sorted({(hole, views[hole]) for views in self.views for hole in self.holes})
+
+    def unknown(self, hole, row):
+        return (hole, self.views[row][hole])
+
+    def asked(self, row):
+        """The holes that the row asks."""
+        right = self.right[row]
+        return [hole for hole in self.holes for choice in right if turned(choice, hole) not in right]
+
+    def filling(self, told):
+        """The plain filling with the signs that are told of some unknowns."""
+        return tuple(
+            tuple(told.get((hole, view), 0) for view in range(2 ** len(self.sights[hole]))) for hole in self.holes
+        )
+
+    def plain_fillings(self):
+        for signs in itertools.product((0, 1), repeat=len(self.unknowns)):
+            yield self.filling(dict(zip(self.unknowns, signs)))
+
+    def choice(self, filling, row):
+        return tuple(filling[hole][self.views[row][hole]] for hole in self.holes)
+
+    def is_right(self, filling):
+        return all(self.choice(filling, row) in self.right[row] for row in range(self.many))
+
+    def right_fillings(self):
+        """All right plain fillings, by trying each one."""
+        return [filling for filling in self.plain_fillings() if self.is_right(filling)]
+
+
+def turned(choice, hole):
+    """The choice with the sign of this hole alone turned."""
+    return choice[:hole] + (1 - choice[hole],) + choice[hole + 1:]
+
+
+def one_hole_tasks(many, seed):
+    """Many small tasks with one hole, always the same: any sources, any rows that want 1, 0, nothing or both."""
+    chooser = random.Random(seed)
+    found = [task for task in some_tasks(3 * many, seed, most_holes=1) if len(task.holes) == 1][:many // 3]
+    while len(found) < many:
+        inputs = chooser.randint(1, 3)
+        wires = [*NAMES_OF_INPUTS[:inputs], *[f"n{at}" for at in range(inputs)]]
+        often = chooser.choice((0.6, 0.8, 0.9))
+        sources = chooser.sample(wires, chooser.randint(0, min(3, len(wires))))
+        found.append(told_task(inputs, [("h", sources)], lambda setting, choice: chooser.random() < often))
+    return found
+
+
+def bent_signs(signs):
+    """Lists near to this one: signs turned, left out, too many, and what is no sign in the place of one."""
+    found = [signs[:at] + (1 - sign,) + signs[at + 1:] for at, sign in enumerate(signs)]
+    found += [signs[:at] + (other,) + signs[at + 1:] for at, sign in enumerate(signs[:4])
+              for other in (bool(sign), 2, -1, None, str(sign), [sign], float(sign), EqualsAll())]
+    return found + [signs[:-1], signs + (0,), signs + (1,), signs + signs, signs[:len(signs) // 2]] * bool(signs)
+
+
+def strange_values():
+    """Values that are no papers of the document's classes, some hard to compare."""
+    return wrong_values() + [
+        EqualsAll(), RaisesAlways(), Paper("between", (0,), (1,)), Denial("clash", 0, 0), Paper("plan", ((0, 0),)),
+        Denial("trap", 0), Paper("sound"), Paper("faithful"), Denial("strays", 0, (0,)), Denial("bends", 0, (0,)),
+        Alike(), Unlike(0), Between, Clash, Plan, Trap, "between", "sound", ("clash", 0, 0), {"word": "sound"},
+    ]
+
+
+class RaisesAlways:
+    """What raises an error of its own whatever it is asked."""
+
+    def __eq__(self, other):
+        raise ArithmeticError
+
+    def __bool__(self):
+        raise ArithmeticError
+
+    def __len__(self):
+        raise ArithmeticError
+
+    def __iter__(self):
+        raise ArithmeticError
+
+    def __getitem__(self, at):
+        raise ArithmeticError
+
+    def __getattr__(self, name):
+        raise ArithmeticError
+
+
+def nested_deep(value, depth):
+    for at in range(depth):
+        value = [value] if at % 2 else (value,)
+    return value
+
+
+def drawn_ladder(task):
+    """The holes along the ladder, None if the sights are not nested."""
+    sights = [set(sources) for _, sources, table in task.net.gates if table is None]
+    order = sorted(range(len(sights)), key=lambda hole: (len(sights[hole]), hole))
+    nested = all(sights[one] <= sights[other] for one, other in zip(order, order[1:]))
+    return order if nested else None
+
+
+def is_drawn_trap(drawn, order, tree, named=(), signs=()):
+    """Whether the tree is a trap, read as point 8 tells it; lists may stand for tuples."""
+    if len(signs) == len(order):
+        choice = tuple(signs[order.index(hole)] for hole in drawn.holes)
+        return (
+            type(tree) is int and 0 <= tree < drawn.many and choice not in drawn.right[tree]
+            and all(drawn.views[tree][hole] == view for hole, view in named)
+        )
+    if not isinstance(tree, (list, tuple)) or len(tree) != 3 or type(tree[0]) is not int:
+        return False
+    longer = (*named, (order[len(signs)], tree[0]))
+    if not any(all(views[hole] == view for hole, view in longer) for views in drawn.views):
+        return False
+    return all(is_drawn_trap(drawn, order, tree[1 + sign], longer, (*signs, sign)) for sign in (0, 1))
+
+
+def ends_of(tree):
+    """What stands at the ends of a tree of triples."""
+    return ends_of(tree[1]) + ends_of(tree[2]) if isinstance(tree, (list, tuple)) else [tree]

@@ -2,11 +2,14 @@
 
 import unittest
 
-from holegates import checks, errors, nets, papers, tables, tasks, wires
-
-MODULES = (errors, checks, papers, tables, nets, wires, tasks)
+from holegates import check_single, checks, errors, ladders, nets, papers, parting, single, tables, tasks, wires
 
 # The order is that of the document: an example uses names as earlier ones made them last.
+MODULES = {
+    "errors": errors, "checks": checks, "papers": papers, "tables": tables, "nets": nets, "wires": wires,
+    "tasks": tasks, "parting": parting, "single": single, "check_single": check_single, "ladders": ladders,
+}
+
 EXAMPLES = {
     "checks": """\
 >>> [is_integer(True), is_within(3, None, 3), is_sign(1), is_sign(True), are_signs([0, 1]), are_signs("01"), is_name("a7"), is_name("A"), first_twice([2, 1, 2, 1])]
@@ -76,6 +79,40 @@ raises Misfit('hole')
 >>> task.is_right([[0, 1, 0, 0]])
 raises BadFilling('filling')
 """,
+    "parting": """\
+>>> [asks(task, 0), asks(task, 3), parts_of(task)]
+[(0, 1), (), (((0, 1), ((0, 1), (1, 0), (1, 1))), ((2,), ()), ((3,), ()))]
+""",
+    "single": """\
+>>> net = Net.read("a b : h ? a b / u 0001 a h / v 0010 b h / w 0111 u v / x 0111 a b / out 1001 w x")
+>>> task = Task(net, "out")
+>>> [between(task).parts, free_views(task), how_many(task), table_at(task, 1), number_of(task, [1, 0, 1, 0])]
+[((0, 0, 1, 0), (1, 0, 1, 1)), (0, 3), 4, (0, 0, 1, 1), 2]
+>>> odd = Task(Net.read("a b : h ? a b / u 0001 a h / v 0010 b h / w 0111 u v / x 0110 a b / out 1001 w x"), "out")
+>>> [between(odd).parts, bool(between(odd)), how_many(odd)]
+[(3, 3), False, 0]
+>>> blind = Task(Net.read("a b : h ? / u 0001 a h / v 0010 b h / w 0111 u v / x 0111 a b / out 1001 w x"), "out")
+>>> [between(blind).parts, between(Task(Net.read("a : n 10 a / h ? a n / out 10 h"), "out")).parts]
+[(2, 1), ((0, 0, 0, 0), (0, 0, 0, 0))]
+>>> table_at(task, 4)
+raises BadNumber("number")
+>>> number_of(task, (0, 1, 1, 0))
+raises BadTable("table")
+""",
+    "check_single": """\
+>>> [shows_between(task, between(task)), shows_between(odd, Clash(3, 3)), shows_between(blind, Clash(1, 2)), shows_between(task, Between([0, 0, 1, 0], [0, 0, 1, 1]))]
+[True, True, False, False]
+""",
+    "ladders": """\
+>>> some = Task(Net.read("a b : h ? a b / k ? a / s 0110 h k / out 1001 s b"), "out")
+>>> [ladder(some), how_many(some), plan(some).word, some.is_right(plan(some).filling)]
+[(1, 0), 4, 'plan', True]
+>>> free = Task(Net.read("a b : h ? a / k ? a b / out 11111001 h k b"), "out")
+>>> [ladder(free), how_many(free), bool(plan(free)), plan(Task(Net.read("a b : h ? a / k ? a / s 0110 h k / out 1001 s b"), "out")).word]
+[(0, 1), 25, True, 'trap']
+>>> ladder(Task(Net.read("a b : h ? a / k ? b / out 0110 h k"), "out"))
+raises Misfit('sights')
+""",
 }
 
 
@@ -88,6 +125,11 @@ def steps(example):
         else:
             found[-1][1] = line
     return found
+
+
+def own_names(module):
+    """What the module defines itself: two sections may have functions of one name."""
+    return {name: value for name, value in vars(module).items() if getattr(value, "__module__", "") == module.__name__}
 
 
 class Examples(unittest.TestCase):
@@ -105,9 +147,11 @@ class Examples(unittest.TestCase):
 
     def test_all_sections(self):
         names = {}
-        for module in MODULES:
-            names.update(vars(module))
-        for section, example in EXAMPLES.items():
-            for asked, told in steps(example):
+        for section, module in MODULES.items():
+            names.update(own_names(module))
+            for asked, told in steps(EXAMPLES.get(section, "")):
                 with self.subTest(section=section, asked=asked):
                     self.assert_holds(asked, told, names)
+
+    def test_each_example_has_its_module(self):
+        self.assertEqual([*EXAMPLES], [section for section in MODULES if section != "errors"])

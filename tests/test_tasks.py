@@ -11,9 +11,8 @@ from holegates.tables import sign_at
 from holegates.tasks import Task
 from holegates.wires import run
 from tests.support import (
-    NAMES_OF_INPUTS, EqualsAll, Told, drawn_sign, greatest_net, in_twos, no_names, settings, some_filling, some_nets,
-    some_tables,
-    tables, wrong_numbers, wrong_tables, wrong_values,
+    NAMES_OF_INPUTS, EqualsAll, Told, drawn_right, drawn_view, greatest_net, no_names, settings, some_filling,
+    some_tables, some_tasks, tables, wrong_numbers, wrong_tables, wrong_values,
 )
 
 NET = Net.read("a b : n 10 a / h ? a n / k ? b / x 0110 h k / out 0111 x a")
@@ -21,27 +20,11 @@ TASK = Task(NET, "out")
 SOME = [[0, 1, 0, 0], [0, 0]]
 
 
-def some_tasks(many, seed):
-    """Small tasks, some with a wish that is an input or a sure gate."""
-    chooser = random.Random(seed)
-    return [Task(net, chooser.choice(net.wires[-3:])) for net in some_nets(many, seed)]
-
-
 TASKS = some_tasks(150, 11)
-
-
-def drawn_view(task, hole, row):
-    setting = settings(len(task.net.inputs))[row]
-    signs = [drawn_sign(task.net, setting, (0,) * len(task.holes), name) for name in task.sights[hole]]
-    return in_twos(signs)
 
 
 def drawn_choice(task, filling, row):
     return tuple(table[drawn_view(task, hole, row)] for hole, table in enumerate(filling))
-
-
-def drawn_right(task, choice, row):
-    return drawn_sign(task.net, settings(len(task.net.inputs))[row], choice, task.wish) == 1
 
 
 def drawn_unknowns(task):

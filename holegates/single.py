@@ -1,0 +1,111 @@
+"""Tasks with one hole: all tables that can stand in it, or two rows that bar them all."""
+
+from holegates.checks import is_within
+from holegates.errors import BadNumber, BadTable, Impossible, Misfit
+from holegates.papers import Denial, Paper
+from holegates.tables import follows, is_table, told_in_twos
+from holegates.tasks import need_task
+
+
+class Between(Paper):
+    """The right plain tables are those from the least to the greatest."""
+
+    def __init__(self, least, greatest):
+        Paper.__init__(self, "between", least, greatest)
+        self.least = self.parts[0]
+        self.greatest = self.parts[1]
+
+
+class Clash(Denial):
+    """Two alike rows, or one row: the first one wants 1, the other one wants 0."""
+
+    def __init__(self, one, other):
+        Denial.__init__(self, "clash", one, other)
+        self.one = self.parts[0]
+        self.other = self.parts[1]
+
+
+def between(task):
+    """The Between of all right plain tables, or a Clash."""
+    _need_one_hole(task)
+    ones = _rows_wanting(task, 1)
+    zeros = _rows_wanting(task, 0)
+    for one in ones:
+        for other in zeros:
+            if task.view(0, one) == task.view(0, other):
+                return Clash(one, other)
+    unwanted = _views_at(task, zeros)
+    kept = [view for _, view in task.unknowns() if view not in unwanted]
+    return Between(_table_with(task, _views_at(task, ones)), _table_with(task, kept))
+
+
+def free_views(task):
+    """The lot of the views that some row has, and of which nobody wants anything."""
+    return _free_between(_need_between(task))
+
+
+def how_many(task):
+    """How many right plain tables there are."""
+    found = between(task)
+    return 1 << len(_free_between(found)) if found else 0
+
+
+def table_at(task, number):
+    """The right plain table that has this number among all of them, ascending."""
+    found = _need_between(task)
+    free = _free_between(found)
+    if not is_within(number, 0, (1 << len(free)) - 1):
+        raise BadNumber("number")
+    table = list(found.least)
+    for at, view in enumerate(reversed(free)):
+        table[view] = (number >> at) & 1
+    return tuple(table)
+
+
+def number_of(task, table):
+    """The number that the right plain table has among all of them, ascending."""
+    found = _need_between(task)
+    if not is_table(table) or not _is_between(found, table):
+        raise BadTable("table")
+    return told_in_twos([table[view] for view in _free_between(found)])
+
+
+def wants(task, row, sign):
+    """Whether the row of a task with one hole wants this sign."""
+    return (1 - sign,) not in task.right_choices(row)
+
+
+def _need_one_hole(task):
+    need_task(task, "task")
+    if len(task.holes) != 1:
+        raise Misfit("holes")
+
+
+def _rows_wanting(task, sign):
+    return [row for row in range(task.many) if wants(task, row, sign)]
+
+
+def _views_at(task, rows):
+    return [task.view(0, row) for row in rows]
+
+
+def _table_with(task, views):
+    return [1 if view in views else 0 for view in range(1 << len(task.sights[0]))]
+
+
+def _need_between(task):
+    found = between(task)
+    if not found:
+        raise Impossible(found)
+    return found
+
+
+def _free_between(found):
+    # The greatest is 0 at views that no row has, so these are left out.
+    return tuple([view for view, sign in enumerate(found.greatest) if sign != found.least[view]])
+
+
+def _is_between(found, table):
+    if len(table) != len(found.least):
+        return False
+    return follows(found.least, table) and follows(table, found.greatest)
