@@ -375,3 +375,59 @@ def is_drawn_trap(drawn, order, tree, named=(), signs=()):
 def ends_of(tree):
     """What stands at the ends of a tree of triples."""
     return ends_of(tree[1]) + ends_of(tree[2]) if isinstance(tree, (list, tuple)) else [tree]
+
+
+class DrawnForms:
+    """The forms of a task as point 9 tells them."""
+
+    def __init__(self, task):
+        self.drawn = Drawn(task)
+        self.order = drawn_ladder(task)
+        self.up_to = [self.order[:self.order.index(hole) + 1] for hole in self.drawn.holes]
+        self.places = [len(self.drawn.sights[hole]) + len(self.up_to[hole]) for hole in self.drawn.holes]
+
+    def place(self, hole, view, choice):
+        """The number of the setting that tells this view, and behind it what the choice has along the ladder."""
+        seen = settings(len(self.drawn.sights[hole]))[view]
+        return in_twos((*seen, *[choice[ahead] for ahead in self.up_to[hole]]))
+
+    def choice_of(self, form, row, choice):
+        """The choice that comes at the row."""
+        return tuple(form[hole][self.place(hole, self.drawn.views[row][hole], choice)] for hole in self.drawn.holes)
+
+    def filling_of(self, form, free):
+        """The plain filling that comes."""
+        told = {}
+        for row in range(self.drawn.many):
+            comes = self.choice_of(form, row, self.drawn.choice(free, row))
+            told.update({self.drawn.unknown(hole, row): comes[hole] for hole in self.drawn.holes})
+        return self.drawn.filling(told)
+
+    def had_places(self, hole):
+        """The numbers of the settings of the hole's table that begin with a view of some row."""
+        many = len(self.up_to[hole])
+        return [view << many | more for at, view in self.drawn.unknowns if at == hole for more in range(2 ** many)]
+
+    def own(self):
+        """The form of which everything comes of itself."""
+        return tuple(tuple(at % 2 for at in range(2 ** places)) for places in self.places)
+
+    def constant(self, filling):
+        """The form of which this filling comes, whatever is put in."""
+        return tuple(
+            tuple(table[at >> len(ahead)] for at in range(2 ** places))
+            for table, ahead, places in zip(filling, self.up_to, self.places)
+        )
+
+    def any_form(self, chooser):
+        return tuple(tuple(chooser.randrange(2) for _ in range(2 ** places)) for places in self.places)
+
+    def some_forms(self, chooser, right):
+        """Forms of many kinds, for these right fillings."""
+        found = [self.own(), self.any_form(chooser), self.constant(next(self.drawn.plain_fillings()))]
+        found += [self.constant(filling) for filling in right[:1] + right[-1:]]
+        bent = [list(table) for table in self.own()]
+        hole = chooser.randrange(len(bent))
+        at = chooser.choice(self.had_places(hole))
+        bent[hole][at] = 1 - bent[hole][at]
+        return [*found, bent]

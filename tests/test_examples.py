@@ -2,12 +2,16 @@
 
 import unittest
 
-from holegates import check_single, checks, errors, ladders, nets, papers, parting, single, tables, tasks, wires
+from holegates import (
+    check_forms, check_ladders, check_single, checks, errors, forms, ladders, nets, papers, parting, single, tables,
+    tasks, wires,
+)
 
 # The order is that of the document: an example uses names as earlier ones made them last.
 MODULES = {
     "errors": errors, "checks": checks, "papers": papers, "tables": tables, "nets": nets, "wires": wires,
     "tasks": tasks, "parting": parting, "single": single, "check_single": check_single, "ladders": ladders,
+    "check_ladders": check_ladders, "forms": forms, "check_forms": check_forms,
 }
 
 EXAMPLES = {
@@ -112,6 +116,29 @@ raises BadTable("table")
 [(0, 1), 25, True, 'trap']
 >>> ladder(Task(Net.read("a b : h ? a / k ? b / out 0110 h k"), "out"))
 raises Misfit('sights')
+""",
+    "check_ladders": """\
+>>> blind = Task(Net.read("a b : h ? a / k ? a / s 0110 h k / out 1001 s b"), "out")
+>>> [shows_plan(blind, Trap(tree)) for tree in ((0, (0, 1, 0), (0, 0, 1)), [1, [1, 3, 2], [1, 2, 3]], (0, (1, 3, 2), (0, 0, 1)), (0, (0, 0, 1), (0, 0, 1)))]
+[True, True, False, False]
+>>> [shows_plan(free, Plan([[1, 1], [0, 1, 0, 1]])), shows_plan(free, Plan([[1, 1], [0, 1, 0, 0]])), shows_plan(some, Plan([[0, 0, 0, 1], [0, 0]]))]
+[True, False, False]
+""",
+    "forms": """\
+>>> free = Task(Net.read("a b : h ? a / k ? a b / out 11111001 h k b"), "out")
+>>> form = form_of(free)
+>>> [form, comes_of(free, form, [[1, 0], [1, 1, 1, 0]])]
+[((0, 1, 0, 1), (0, 1, 0, 0, 0, 1, 1, 1, 0, 1, 0, 0, 0, 1, 1, 1)), ((1, 0), (0, 1, 1, 0))]
+>>> some = Task(Net.read("a b : h ? a b / k ? a / s 0110 h k / out 1001 s b"), "out")
+>>> [form_of(some) == ((0, 0, 1, 1, 1, 1, 0, 0) * 2, (0, 1) * 2), sound(some, form_of(some)).word, bool(faithful(some, form_of(some)))]
+[True, 'sound', True]
+>>> own, one = ((0, 1) * 8, (0, 1) * 2), ((0, 0, 0, 0, 1, 1, 1, 1) * 2, (0,) * 4)
+>>> [sound(some, own).word, faithful(some, own).word, sound(some, one).word, faithful(some, one).word, is_form(some, one[::-1])]
+['strays', 'faithful', 'sound', 'bends', False]
+""",
+    "check_forms": """\
+>>> [shows_sound(some, own, Strays(0, (1, 0))), shows_sound(some, own, Strays(0, (1, 1))), shows_faithful(some, one, Bends(0, [1, 1])), shows_faithful(some, one, Bends(0, (1, 0)))]
+[True, False, True, False]
 """,
 }
 
