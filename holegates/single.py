@@ -27,9 +27,9 @@ class Clash(Denial):
 
 def between(task):
     """The Between of all right plain tables, or a Clash."""
-    _need_one_hole(task)
-    ones = _rows_wanting(task, 1)
-    zeros = _rows_wanting(task, 0)
+    need_one_hole(task)
+    ones = rows_wanting(task, 1)
+    zeros = rows_wanting(task, 0)
     for one in ones:
         for other in zeros:
             if task.view(0, one) == task.view(0, other):
@@ -75,14 +75,16 @@ def wants(task, row, sign):
     return (1 - sign,) not in task.right_choices(row)
 
 
-def _need_one_hole(task):
+def rows_wanting(task, sign):
+    """The rows of a task with one hole that want this sign, ascending."""
+    return [row for row in range(task.many) if wants(task, row, sign)]
+
+
+def need_one_hole(task):
+    """Raises BadTask for what is no task, and Misfit for one that has not just one hole."""
     need_task(task, "task")
     if len(task.holes) != 1:
         raise Misfit("holes")
-
-
-def _rows_wanting(task, sign):
-    return [row for row in range(task.many) if wants(task, row, sign)]
 
 
 def _views_at(task, rows):

@@ -43,13 +43,18 @@ def told_in_twos(signs):
     return number
 
 
+def setting_told(places, number):
+    """As setting_of, for any number of places and a number that surely fits."""
+    return tuple([(number >> (places - 1 - place)) & 1 for place in range(places)])
+
+
 def setting_of(places, row):
     """The setting of so many places that has this number."""
     if not is_within(places, 0, MOST_PLACES):
         raise BadNumber("places")
     if not is_within(row, 0, (1 << places) - 1):
         raise BadNumber("row")
-    return tuple([(row >> (places - 1 - place)) & 1 for place in range(places)])
+    return setting_told(places, row)
 
 
 def sign_at(table, setting):
@@ -168,6 +173,36 @@ def table_told(item):
         return None
     table = tuple([int(sign) for sign in item])
     return table if is_table(table) else None
+
+
+# What has a sign in each of many settings can be told as one integer: the bit of a setting, at its
+# number, is the sign there. So one step works on all of them.
+
+
+def all_bits(places):
+    """1 in all settings of so many places."""
+    return (1 << (1 << places)) - 1
+
+
+def bits_of_place(places, place):
+    """1 in the settings of so many places in which this place is 1."""
+    # In turns so many settings have 0 there and so many have 1.
+    many = 1 << (places - 1 - place)
+    return (all_bits(places) // ((1 << many) + 1)) << many
+
+
+def bits_picked(worths, sources):
+    """In each setting the sign of one of the worths: of that with the number which the sources have there."""
+    left = worths
+    for bits in reversed(sources):
+        left = [zero ^ ((zero ^ one) & bits) for zero, one in zip(left[::2], left[1::2])]
+    return left[0]
+
+
+def count_bits(bits):
+    """In how many settings there is 1."""
+    told = f"{bits:b}"
+    return told.count("1")
 
 
 def _need_setting(setting):

@@ -7,8 +7,10 @@ import unittest
 from holegates.ladders import Plan, Trap
 from holegates.nets import Net
 from holegates.papers import Denial, Paper
+from holegates.sights import Enough, Short
 from holegates.single import Between, Clash
 from holegates.tasks import Task
+from holegates.unlike import Refused, Settled
 from holegates.wires import Alike, Unlike
 
 HUGE = 10 ** 99
@@ -231,6 +233,29 @@ def nested_tasks(many, seed, most_unknowns=9):
     return found
 
 
+def unlike_task(chooser, inputs, holes):
+    """A task with any sights, and any choices right."""
+    wires = [*NAMES_OF_INPUTS[:inputs], *[f"n{at}" for at in range(inputs)]]
+    drawn = [
+        (f"h{at}", chooser.sample(wires, min(len(wires), chooser.choice((0, 1, 1, 2, 2, 3))))) for at in range(holes)
+    ]
+    often = chooser.choice((0.5, 0.6, 0.7, 0.85, 0.95))
+    return told_task(inputs, drawn, lambda setting, choice: chooser.random() < often)
+
+
+def unlike_tasks(many, seed, most_unknowns=8):
+    """Many small tasks with any sights, always the same; some have a wish that says little."""
+    chooser = random.Random(seed)
+    found = [task for task in some_tasks(many, seed) if task.holes and len(Drawn(task).unknowns) <= most_unknowns]
+    found = found[:many // 4]
+    while len(found) < many:
+        inputs = chooser.randint(1, 4)
+        task = unlike_task(chooser, inputs, chooser.randint(1, min(4, 6 - inputs)))
+        if len(Drawn(task).unknowns) <= most_unknowns:
+            found.append(task)
+    return found
+
+
 def drawn_view(task, hole, row):
     """What the hole sees at the row, as the drawing tells it."""
     setting = settings(len(task.net.inputs))[row]
@@ -263,6 +288,10 @@ class Drawn:
         """The holes that the row asks."""
         right = self.right[row]
         return [hole for hole in self.holes for choice in right if turned(choice, hole) not in right]
+
+    def asked_unknowns(self):
+        """The unknowns that some row asks."""
+        return sorted({self.unknown(hole, row) for row in range(self.many) for hole in self.asked(row)})
 
     def filling(self, told):
         """The plain filling with the signs that are told of some unknowns."""
@@ -316,7 +345,9 @@ def strange_values():
     return wrong_values() + [
         EqualsAll(), RaisesAlways(), Paper("between", (0,), (1,)), Denial("clash", 0, 0), Paper("plan", ((0, 0),)),
         Denial("trap", 0), Paper("sound"), Paper("faithful"), Denial("strays", 0, (0,)), Denial("bends", 0, (0,)),
-        Alike(), Unlike(0), Between, Clash, Plan, Trap, "between", "sound", ("clash", 0, 0), {"word": "sound"},
+        Paper("settled", ((0, 0),)), Denial("refused", 0), Paper("enough", (0,)), Denial("short", 0, 0),
+        Alike(), Unlike(0), Between, Clash, Plan, Trap, Settled, Refused, Enough, Short, "between", "sound",
+        ("clash", 0, 0), ("refused", 0), {"word": "sound"},
     ]
 
 
@@ -370,6 +401,27 @@ def is_drawn_trap(drawn, order, tree, named=(), signs=()):
     if not any(all(views[hole] == view for hole, view in longer) for views in drawn.views):
         return False
     return all(is_drawn_trap(drawn, order, tree[1 + sign], longer, (*signs, sign)) for sign in (0, 1))
+
+
+def bars_way(drawn, row, way):
+    """Whether the row bars the way, a dict of signs by unknowns."""
+    return all(
+        any(way.get(drawn.unknown(hole, row), choice[hole]) != choice[hole] for hole in drawn.holes)
+        for choice in drawn.right[row]
+    )
+
+
+def is_refusing(drawn, tree, way=()):
+    """Whether the tree refuses the task, read as point 10 tells it; lists may stand for tuples."""
+    way = dict(way)
+    if type(tree) is int:
+        return 0 <= tree < drawn.many and bars_way(drawn, tree, way)
+    if not isinstance(tree, (list, tuple)) or len(tree) != 4 or not all(type(part) is int for part in tree[:2]):
+        return False
+    unknown = tuple(tree[:2])
+    if unknown not in drawn.unknowns or unknown in way:
+        return False
+    return all(is_refusing(drawn, tree[2 + sign], {**way, unknown: sign}) for sign in (0, 1))
 
 
 def ends_of(tree):

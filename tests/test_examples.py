@@ -3,15 +3,16 @@
 import unittest
 
 from holegates import (
-    check_forms, check_ladders, check_single, checks, errors, forms, ladders, nets, papers, parting, single, tables,
-    tasks, wires,
+    check_forms, check_ladders, check_single, check_unlike, checks, errors, forms, ladders, leastbars, nets, papers,
+    parting, sights, single, tables, tasks, unlike, wires,
 )
 
 # The order is that of the document: an example uses names as earlier ones made them last.
 MODULES = {
     "errors": errors, "checks": checks, "papers": papers, "tables": tables, "nets": nets, "wires": wires,
     "tasks": tasks, "parting": parting, "single": single, "check_single": check_single, "ladders": ladders,
-    "check_ladders": check_ladders, "forms": forms, "check_forms": check_forms,
+    "check_ladders": check_ladders, "forms": forms, "check_forms": check_forms, "unlike": unlike,
+    "leastbars": leastbars, "check_unlike": check_unlike, "sights": sights,
 }
 
 EXAMPLES = {
@@ -139,6 +140,52 @@ raises Misfit('sights')
     "check_forms": """\
 >>> [shows_sound(some, own, Strays(0, (1, 0))), shows_sound(some, own, Strays(0, (1, 1))), shows_faithful(some, one, Bends(0, [1, 1])), shows_faithful(some, one, Bends(0, (1, 0)))]
 [True, False, True, False]
+""",
+    "unlike": """\
+>>> halves = Task(Net.read("a b : h ? a / k ? b / x 0110 h k / w 0001 a b / out 1001 x w"), "out")
+>>> middle = Task(Net.read("a b c : h ? a b / k ? b c / out 1001 h k"), "out")
+>>> off = Task(Net.read("a b : h ? a / k ? b / out 1110 h k"), "out")
+>>> [settle(halves).word, bool(settle(halves)), how_many(halves)]
+['refused', False, 0]
+>>> [bool(settle(middle)), how_many(middle), how_many(off)]
+[True, 4, 7]
+>>> loose = Task(Net.read("a b : h ? a / k ? b / out 01 h"), "out")
+>>> [how_many(loose), settle(loose).filling[0]]
+[4, (1, 1)]
+>>> wide = Task(Net.read("a b c d : h ? a b c d / out 01 h"), "out")
+>>> settle(wide)
+raises TooMany('unknowns', 12)
+""",
+    "leastbars": """\
+>>> lost = Task(Net.read("a : h ? a / out 00 h"), "out")
+>>> [fewest_rows(halves), fewest_rows(lost), fewest_rows(middle)]
+[(0, 1, 2, 3), (0,), None]
+>>> fewest_rows(Task(Net.read("a b c d : h ? a / out 01 h"), "out"))
+raises TooMany('rows', 8)
+""",
+    "check_unlike": """\
+>>> tree = (0, 0, (1, 0, (1, 1, (0, 1, 3, 2), 1), 0), (1, 0, 0, (1, 1, 1, (0, 1, 2, 3))))
+>>> [shows_settled(halves, Refused(tree)), shows_settled(halves, Refused((0, 0, 0, 1))), shows_settled(lost, Refused(1)), shows_settled(middle, Refused(tree))]
+[True, False, True, False]
+>>> [shows_settled(middle, Settled([[0, 1, 0, 1], [0, 0, 1, 1]])), shows_settled(middle, Settled([[0, 0, 1, 1], [0, 0, 1, 1]])), shows_settled(loose, Settled(((1, 1), (1, 0))))]
+[True, False, True]
+""",
+    "sights": """\
+>>> net = Net.read("a b c : w 0001 a b / h ? a / out 1001 h w")
+>>> task = Task(net, "out")
+>>> [len(apart(task)), apart(task)[0], apart(task)[-1]]
+[12, (6, 0), (7, 5)]
+>>> [enough(task, ["b", "a"]).table, enough(task, ["w", "c"]).table, enough(task, ["a"]).word, enough(task, ["a", "c"]) in (Short(6, 4), Short(7, 5))]
+[(0, 0, 0, 1), (0, 0, 1, 1), 'short', True]
+>>> [tight_sights(task, ["w", "c", "b", "a"]), needed(task, ["a", "b", "c"]), needed(task, net.inputs + ("w",)), tight_sights(task, ["a", "c"])]
+[(('w',), ('a', 'b')), ('a', 'b'), (), ()]
+>>> free, lost = Task(Net.read("a : h ? a / out 11 h"), "out"), Task(Net.read("a : h ? / out 0011 a h"), "out")
+>>> [apart(free), tight_sights(free, ["a"]), enough(free, []).table, apart(lost), enough(lost, ["a"]) == Short(0, 0), tight_sights(lost, ["a"])]
+[(), ((),), (0,), ((0, 0),), True, ()]
+>>> enough(task, ["a", "z"])
+raises NoWire("z")
+>>> enough(task, ["a", "out"])
+raises Misfit("hole")
 """,
 }
 

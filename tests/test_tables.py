@@ -413,6 +413,32 @@ class NothingIsChanged(Told):
         self.assert_raises(NoPlace(place), for_all, ODD, place)
 
 
+class Bits(Told):
+    """Signs in all settings told as the bits of one integer."""
+
+    def told(self, signs):
+        return sum(sign << number for number, sign in enumerate(signs))
+
+    def test_settings_and_places(self):
+        for places in range(7):
+            self.assertEqual(module.all_bits(places), self.told([1] * 2 ** places))
+            for number, setting in enumerate(settings(places)):
+                self.assert_same(module.setting_told(places, number), setting)
+            for place in range(places):
+                expected = self.told([setting[place] for setting in settings(places)])
+                self.assert_same(module.bits_of_place(places, place), expected)
+
+    def test_picked_as_a_table_into_which_others_are_put(self):
+        for places in range(5):
+            inner = some_tables(3, places, places)
+            for table in some_tables(places, 5, 9):
+                worths = [module.all_bits(3) if sign else 0 for sign in table]
+                found = module.bits_picked(worths, [self.told(signs) for signs in inner])
+                expected = put_in(table, inner) if places else table * 8
+                self.assert_same(found, self.told(expected))
+                self.assert_same(module.count_bits(found), sum(expected))
+
+
 class ShortTimes(Told):
     def test_the_greatest_tables(self):
         begin = time.process_time()
