@@ -52,22 +52,18 @@ class Net:
 
     def put(self, name, table):
         """The net in which this gate has this table."""
-        self._need_gate(name)
+        need_gate(self, name)
         need_table(table, "table")
         return self._with_gate(name, _sources(self.gates, name), table)
 
     def struck(self, name, sources=None):
         """The net in which this gate is a hole, with its own sources or these."""
-        self._need_gate(name)
+        need_gate(self, name)
         if sources is None:
             return self._with_gate(name, _sources(self.gates, name), None)
         if not are_sources(sources):
             raise BadNet("sources")
         return self._with_gate(name, sources, None)
-
-    def _need_gate(self, name):
-        if not is_wire(self, name) or name in self.inputs:
-            raise NoWire(name)
 
     def _with_gate(self, name, sources, table):
         # All other gates fit, so the errors of the new net are those of this gate.
@@ -89,6 +85,12 @@ def is_wire(net, value):
 def need_wire(net, name):
     """Raises NoWire for what is no wire of the net."""
     if not is_wire(net, name):
+        raise NoWire(name)
+
+
+def need_gate(net, name):
+    """Raises NoWire for what is no gate of the net."""
+    if not is_wire(net, name) or name in net.inputs:
         raise NoWire(name)
 
 

@@ -205,6 +205,11 @@ def count_bits(bits):
     return told.count("1")
 
 
+def least_bit(bits):
+    """The number of the first setting in which there is 1, if there is one."""
+    return (bits & -bits).bit_length() - 1
+
+
 def _need_setting(setting):
     if not are_signs(setting) or len(setting) > MOST_PLACES:
         raise BadNumber("setting")

@@ -3,7 +3,7 @@
 from holegates.errors import Misfit, TooMany
 from holegates.papers import Denial, Paper
 from holegates.parting import asks, parts_of
-from holegates.tables import all_bits, bits_of_place, bits_picked, count_bits, setting_told
+from holegates.tables import all_bits, bits_of_place, bits_picked, count_bits, least_bit, setting_told
 from holegates.tasks import need_task
 
 MOST_UNKNOWNS = 12
@@ -34,7 +34,7 @@ def settle(task):
         settled = right_at_all(right, unknowns)
         if not settled:
             return Refused(_refusing(list(zip(rows, right)), _with_bits(unknowns), all_bits(len(unknowns))))
-        told.update(list(zip(unknowns, setting_told(len(unknowns), _least(settled)))))
+        told.update(list(zip(unknowns, setting_told(len(unknowns), least_bit(settled)))))
     return Settled(_plain_filling(task, told))
 
 
@@ -89,10 +89,6 @@ def _as_asked(task, rows):
     # In this order the signs of one row are named soon, and the tree can end there.
     asked = [(hole, task.view(hole, row)) for row in rows for hole in asks(task, row)]
     return list({unknown: True for unknown in asked})
-
-
-def _least(bits):
-    return (bits & -bits).bit_length() - 1
 
 
 def _refusing(right, unknowns, left):

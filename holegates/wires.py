@@ -4,7 +4,7 @@ from holegates.checks import are_signs, is_within
 from holegates.errors import BadNumber, Misfit, NoRow, NoWire
 from holegates.nets import is_wire, need_net
 from holegates.papers import Denial, Paper
-from holegates.tables import setting_of, told_in_twos
+from holegates.tables import all_bits, bits_of_place, bits_picked, setting_of, told_in_twos
 
 
 class Alike(Paper):
@@ -77,6 +77,23 @@ def signs_at(net, row, choice):
         else:
             signs[name] = table[told_in_twos([signs[source] for source in sources])]
     return signs
+
+
+def worths_of(net, places):
+    """By the names of the gates with a table the signs of it, each as bits in all settings of so many places."""
+    every = all_bits(places)
+    return {name: [every if sign else 0 for sign in table] for name, _, table in net.gates if table is not None}
+
+
+def bits_of_wires(net, places, worths):
+    """By the names of the wires their signs, as bits, in all settings of so many places, the inputs being the first.
+
+    The worths tell, by the names of the gates, the signs that these have at the settings of their sources.
+    """
+    told = {name: bits_of_place(places, at) for at, name in enumerate(net.inputs)}
+    for name, sources, _ in net.gates:
+        told[name] = bits_picked(worths[name], [told[source] for source in sources])
+    return told
 
 
 def any_choice(net):

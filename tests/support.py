@@ -4,6 +4,7 @@ import itertools
 import random
 import unittest
 
+from holegates.freerows import Idle, Matters, Wrong
 from holegates.ladders import Plan, Trap
 from holegates.nets import Net
 from holegates.papers import Denial, Paper
@@ -166,6 +167,44 @@ def some_nets(many, seed, most_inputs=3, most_gates=6, most_holes=3):
     for _ in range(many):
         inputs, gates = chooser.randint(1, most_inputs), chooser.randint(0, most_gates)
         found.append(some_net(chooser, inputs, gates, chooser.randint(0, most_holes)))
+    return found
+
+
+def drawn_wish(net, wish, put):
+    """The signs of a wire at all rows, as the drawing tells them; put has other sources and tables for some gates."""
+    found = []
+    for setting in settings(len(net.inputs)):
+        signs = dict(zip(net.inputs, setting))
+        for name, sources, table in net.gates:
+            sources, table = put.get(name, (sources, table))
+            signs[name] = table[in_twos([signs[source] for source in sources])]
+        found.append(signs[wish])
+    return found
+
+
+def right_nets(many, seed):
+    """Nets without holes, with a wire that is 1 at all rows: it tells that a gate is what it was planned to be."""
+    chooser = random.Random(seed)
+    found = []
+    for net in some_nets(many, seed, most_gates=4, most_holes=0):
+        planned = chooser.choice(net.wires)
+        gates = [*net.gates, ("plan", net.inputs, drawn_wish(net, planned, {}))]
+        gates.append(("same", (planned, "plan"), (1, 0, 0, 1)))
+        if chooser.randrange(2):
+            other = chooser.choice(net.wires)
+            gates.append(("eased", ("same", other), chooser.choice(((0, 0, 1, 1), (0, 1, 1, 1)))))
+        found.append((Net(net.inputs, gates), gates[-1][0]))
+    return found
+
+
+def bent_nets(many, seed):
+    """Likewise, but with one sign of one gate turned; some are right still."""
+    chooser = random.Random(seed)
+    found = []
+    for net, wish in right_nets(many, seed):
+        name, _, table = chooser.choice(net.gates)
+        at = chooser.randrange(len(table))
+        found.append((net.put(name, table[:at] + (1 - table[at],) + table[at + 1:]), wish))
     return found
 
 
@@ -345,6 +384,7 @@ def strange_values():
     return wrong_values() + [
         EqualsAll(), RaisesAlways(), Paper("between", (0,), (1,)), Denial("clash", 0, 0), Paper("plan", ((0, 0),)),
         Denial("trap", 0), Paper("sound"), Paper("faithful"), Denial("strays", 0, (0,)), Denial("bends", 0, (0,)),
+        Paper("idle"), Denial("matters", 0, (0,)), Wrong(0), Idle, Matters, Wrong,
         Paper("settled", ((0, 0),)), Denial("refused", 0), Paper("enough", (0,)), Denial("short", 0, 0),
         Alike(), Unlike(0), Between, Clash, Plan, Trap, Settled, Refused, Enough, Short, "between", "sound",
         ("clash", 0, 0), ("refused", 0), {"word": "sound"},

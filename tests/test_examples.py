@@ -3,8 +3,8 @@
 import unittest
 
 from holegates import (
-    check_forms, check_ladders, check_single, check_unlike, checks, errors, forms, ladders, leastbars, nets, papers,
-    parting, sights, single, tables, tasks, unlike, wires,
+    check_forms, check_ladders, check_mends, check_sights, check_single, check_unlike, checks, errors, forms, freerows,
+    ladders, leastbars, mends, nets, papers, parting, sights, single, tables, tasks, unlike, wires,
 )
 
 # The order is that of the document: an example uses names as earlier ones made them last.
@@ -12,7 +12,8 @@ MODULES = {
     "errors": errors, "checks": checks, "papers": papers, "tables": tables, "nets": nets, "wires": wires,
     "tasks": tasks, "parting": parting, "single": single, "check_single": check_single, "ladders": ladders,
     "check_ladders": check_ladders, "forms": forms, "check_forms": check_forms, "unlike": unlike,
-    "leastbars": leastbars, "check_unlike": check_unlike, "sights": sights,
+    "leastbars": leastbars, "check_unlike": check_unlike, "sights": sights, "check_sights": check_sights,
+    "mends": mends, "freerows": freerows, "check_mends": check_mends,
 }
 
 EXAMPLES = {
@@ -187,6 +188,35 @@ raises NoWire("z")
 >>> enough(task, ["a", "out"])
 raises Misfit("hole")
 """,
+    "check_sights": """\
+>>> [shows_enough(task, ["b", "a"], Enough([0, 0, 0, 1])), shows_enough(task, ["a", "b"], Enough([0, 0, 1, 1])), shows_enough(free, ["a"], Enough([1, 0]))]
+[True, False, True]
+>>> [shows_enough(task, ["a", "c"], Short(7, 5)), shows_enough(task, ["a", "c"], Short(7, 4)), shows_enough(task, ["a"], Short(4, 6))]
+[True, False, False]
+""",
+    "mends": """\
+>>> net = Net.read("a b : g 0001 a b / out 1011 g a")
+>>> [mend(net, "out", "g"), mend(net, "out", "g", ["b"]), mend(net, "out", "out")] == [Between((0, 0, 1, 1), (1, 1, 1, 1)), Between((1, 1), (1, 1)), Between((1, 1, 0, 1), (1, 1, 0, 1))]
+True
+>>> twin = Net.read("a b : g 0001 a b / k 0111 a b / out 0001 g k")
+>>> [mendable(net, "out"), mendable_by_all(twin, "out"), two_mends(twin, "out"), mend(twin, "out", "g") == Clash(0, 0)]
+[('g', 'out'), ('out',), (('g', 'k'),), True]
+>>> mend(net, "out", "a")
+raises NoWire('a')
+""",
+    "freerows": """\
+>>> kept = Net.read("a : g 01 a / k 01 a / out 11110111 a g k")
+>>> [free_rows(kept, "out", "g"), free_rows(kept, "out", "k"), free_rows(kept, "out", "out")]
+[(0, 1), (0, 1), (1, 2, 3, 4, 5, 6)]
+>>> [idle(kept, "out", [("g", 1)]).word, idle(kept, "out", [("g", 1), ("k", 0)]).word, idle(kept, "out", [("g", 1), ("k", 1)]) == Matters(1, (0, 0))]
+['idle', 'idle', True]
+>>> free_rows(net, "out", "g")
+raises Impossible(Wrong(2))
+""",
+    "check_mends": """\
+>>> [shows_idle(kept, "out", [("g", 1), ("k", 1)], Matters(1, [0, 0])), shows_idle(kept, "out", [("g", 1), ("k", 1)], Matters(0, (0, 0))), shows_idle(kept, "out", [("g", 1)], Idle())]
+[True, False, True]
+""",
 }
 
 
@@ -215,7 +245,9 @@ class Examples(unittest.TestCase):
             with self.assertRaises(errors.HoleError) as caught:
                 eval(asked, names)
             self.assertIs(type(caught.exception), type(expected))
-            self.assertEqual(repr(vars(caught.exception)), repr(vars(expected)))
+            found = vars(caught.exception)
+            self.assertEqual(found, vars(expected))
+            self.assertEqual([*map(type, found.values())], [*map(type, vars(expected).values())])
         else:
             self.assertEqual(repr(eval(asked, names)), told)
 
