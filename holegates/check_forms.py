@@ -1,30 +1,33 @@
 """Checks of the papers about forms."""
 
 from holegates.checks import are_signs, is_within
-from holegates.forms import Bends, Faithful, Sound, Strays, came_at, faithful, made_by_right, need_form, sound
+from holegates.climbs import Climb
+from holegates.forms import Bends, Faithful, Sound, Strays, came_at, first_bend, first_stray, ladder_of_form
+from holegates.tables import told_in_twos
 
 
 def shows_sound(task, form, value):
     """Whether it is a Sound of a form that is so, or a Strays of any such row and choice."""
-    need_form(task, form)
+    order = ladder_of_form(task, form)
     # A class below one of these is another one, so isinstance would not do.
     if type(value) is Sound:
-        return bool(sound(task, form))
+        return first_stray(task, order, form) is None
     if type(value) is not Strays or not _is_told(task, value.row, value.signs):
         return False
-    return came_at(task, form, value.row, value.signs) not in task.right_choices(value.row)
+    came = came_at(order, form, task.views_at[value.row], value.signs)
+    return (task.right_at[value.row] >> told_in_twos(came)) & 1 == 0
 
 
 def shows_faithful(task, form, value):
     """Whether it is a Faithful of a form that is so, or a Bends of any such row and choice."""
-    need_form(task, form)
+    order = ladder_of_form(task, form)
     if type(value) is Faithful:
-        return bool(faithful(task, form))
+        return first_bend(task, order, form) is None
     if type(value) is not Bends or not _is_told(task, value.row, value.signs):
         return False
-    if (value.row, value.signs) not in made_by_right(task):
+    if came_at(order, form, task.views_at[value.row], value.signs) == value.signs:
         return False
-    return came_at(task, form, value.row, value.signs) != value.signs
+    return Climb(task, order).is_made_at(value.row, told_in_twos(value.signs))
 
 
 def _is_told(task, row, signs):

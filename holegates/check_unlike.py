@@ -1,6 +1,7 @@
 """Checks of the papers about tasks whose holes see any wires."""
 
 from holegates.checks import is_integer, is_within
+from holegates.tables import bits_of_place
 from holegates.tasks import is_filling
 from holegates.unlike import Refused, Settled, parts_to_settle
 
@@ -30,8 +31,9 @@ def _names_one(tree):
 
 
 def _bars(task, row, way):
-    views = [task.view(hole, row) for hole in range(len(task.holes))]
-    for choice in task.right_choices(row):
-        if all([way.get((hole, view), sign) == sign for (hole, view), sign in zip(enumerate(views), choice)]):
-            return False
-    return True
+    left = task.right_at[row]
+    for hole, view in enumerate(task.views_at[row]):
+        if (hole, view) in way:
+            ones = bits_of_place(len(task.holes), hole)
+            left = left & (ones if way[(hole, view)] else ~ones)
+    return not left

@@ -4,7 +4,7 @@ from holegates.climbs import Climb
 from holegates.errors import BadFilling, BadForm, Impossible, TooMany
 from holegates.ladders import Trap, ladder
 from holegates.papers import Denial, Paper, fixed
-from holegates.tables import MOST_PLACES, count_places, is_table, setting_of, told_in_twos
+from holegates.tables import MOST_PLACES, count_places, is_table, setting_told
 from holegates.tasks import is_filling
 
 
@@ -47,76 +47,106 @@ def is_form(task, value):
 
 def comes_of(task, form, free):
     """The plain filling that comes of the filling free, put in for the free places."""
-    need_form(task, form)
+    order = ladder_of_form(task, form)
     if not is_filling(task, free):
         raise BadFilling("free")
     tables = [[0] * (1 << len(sight)) for sight in task.sights]
-    for row in range(task.many):
-        for hole, sign in enumerate(came_at(task, form, row, task.choice(free, row))):
-            tables[hole][task.view(hole, row)] = sign
+    for views in task.views_at:
+        choice = [table[view] for table, view in zip(free, views)]
+        for hole, sign in enumerate(came_at(order, form, views, choice)):
+            tables[hole][views[hole]] = sign
     return fixed(tables)
 
 
 def form_of(task):
     """The form made along the ladder, which is sound and faithful."""
     climb = Climb(task, _form_ladder(task))
-    tree = climb.trap(climb.rows, ())
-    if tree is not None:
-        raise Impossible(Trap(tree))
+    if not climb.top.is_won(0):
+        raise Impossible(Trap(climb.trap(climb.top, 0)))
     tables = [[0] * (1 << places) for places in _places(task, climb.order)]
-    told = [(climb.rows, (), ())]
+    told, places = [(climb.top, [0])], [0]
     for hole in climb.order:
-        told = _put_on(climb, told, tables[hole])
+        places = _one_place_more(places)
+        longer = []
+        for spot, came in told:
+            for later in spot.further:
+                signs = _won_signs(spot, later, came)
+                for place, sign in zip(places, signs):
+                    tables[hole][_number(later.seen, later.many, place)] = sign
+                longer.append((later, _longer(spot, came, signs)))
+        told = longer
     return fixed(tables)
 
 
 def sound(task, form):
     """A Sound, or a Strays."""
-    need_form(task, form)
-    choices = _all_choices(task)
-    for row in range(task.many):
-        right = task.right_choices(row)
-        for signs in choices:
-            if came_at(task, form, row, signs) not in right:
-                return Strays(row, signs)
-    return Sound()
+    found = first_stray(task, ladder_of_form(task, form), form)
+    return Sound() if found is None else Strays(found[0], found[1])
 
 
 def faithful(task, form):
     """A Faithful, or a Bends."""
-    need_form(task, form)
-    for row, signs in made_by_right(task):
-        if came_at(task, form, row, signs) != signs:
-            return Bends(row, signs)
-    return Faithful()
+    found = first_bend(task, ladder_of_form(task, form), form)
+    return Faithful() if found is None else Bends(found[0], found[1])
 
 
-def need_form(task, form):
-    """Raises what the task raises here, and BadForm for what is no form of it."""
-    if not is_form(task, form):
+def ladder_of_form(task, form):
+    """The ladder of a task with forms; raises what the task raises here, and BadForm for what is no form of it."""
+    order = _form_ladder(task)
+    if not _is_form_along(task, order, form):
         raise BadForm("form")
+    return order
 
 
-def came_at(task, form, row, choice):
-    """The choice that comes at the row of a choice put in there."""
-    came = [0] * len(task.holes)
-    free = ()
-    for hole in ladder(task):
-        free = free + (choice[hole],)
-        came[hole] = form[hole][_number(task.view(hole, row), free)]
+def came_at(order, form, views, choice):
+    """The choice that comes of a choice put in at a row with these views, both told by the numbers of the holes."""
+    came = [0] * len(order)
+    place = 0
+    for at, hole in enumerate(order):
+        place = 2 * place + choice[hole]
+        came[hole] = form[hole][_number(views[hole], at + 1, place)]
     return tuple(came)
 
 
-def made_by_right(task):
-    """All pairs of a row and a choice that some right filling makes there, ascending."""
-    climb = Climb(task, ladder(task))
-    told = [(climb.rows, ())] if climb.is_won(climb.rows, ()) else []
-    for step in range(len(climb.order)):
-        told = [
-            (seen, signs + (sign,)) for rows, signs in told for _, seen in climb.parted(rows, step)
-            for sign in (0, 1) if climb.is_won(seen, signs + (sign,))
+def first_stray(task, order, form):
+    """The first row and choice put in there of which a wrong one comes, or None."""
+    known = {}
+    for row, views in enumerate(task.views_at):
+        for choice, came in enumerate(_all_came(order, form, views, known)):
+            if not (task.right_at[row] >> came) & 1:
+                return (row, setting_told(len(order), choice))
+    return None
+
+
+def first_bend(task, order, form):
+    """The first row and choice that some right filling makes there and of which another one comes, or None."""
+    known = {}
+    climb = Climb(task, order)
+    for row, views in enumerate(task.views_at):
+        for choice, came in enumerate(_all_came(order, form, views, known)):
+            if came != choice and climb.is_made_at(row, choice):
+                return (row, setting_told(len(order), choice))
+    return None
+
+
+def _all_came(order, form, views, known):
+    # The numbers of the choices that come at a row with these views, by those of the choices put in.
+    if views not in known:
+        known[views] = _came_of_all(order, form, views)
+    return known[views]
+
+
+def _came_of_all(order, form, views):
+    found = [(0, 0, 0)]
+    for at, hole in enumerate(order):
+        table, first = form[hole], views[hole] << (at + 1)
+        weight = 1 << (len(order) - 1 - hole)
+        # The free places, what was put in, and what came.
+        found = [
+            (2 * place + sign, put + sign * weight, came + table[first + 2 * place + sign] * weight)
+            for place, put, came in found for sign in (0, 1)
         ]
-    return sorted([(row, _by_hole(climb.order, signs)) for rows, signs in told for row in rows])
+    return [came for _, came in sorted([(put, came) for _, put, came in found])]
 
 
 def _form_ladder(task):
@@ -139,27 +169,24 @@ def _is_form_along(task, order, value):
     ])
 
 
-def _number(view, free):
-    return (view << len(free)) + told_in_twos(free)
+def _number(view, many, place):
+    # The number of a setting: of the view, and behind it of as many free places as are told.
+    return (view << many) + place
 
 
-def _all_choices(task):
-    many = len(task.holes)
-    return [setting_of(many, number) for number in range(1 << many)]
+def _one_place_more(places):
+    # A spot counts the first of its signs least, a table most. For all numbers of signs at a spot these are
+    # those of the free places of a table.
+    return [2 * place + sign for sign in (0, 1) for place in places]
 
 
-def _by_hole(order, signs):
-    chosen = dict(zip(order, signs))
-    return tuple([chosen[hole] for hole in range(len(order))])
+def _longer(spot, came, signs):
+    # The numbers of what came, with the signs of one hole more, by the numbers of what was put in.
+    return [number + (sign << spot.many) for number, sign in zip(came + came, signs)]
 
 
-def _put_on(climb, told, table):
-    # Of rows, what was put in and what came the same, for one step more of the ladder.
-    longer = []
-    for rows, free, came in told:
-        for view, seen in climb.parted(rows, len(came)):
-            for put in (0, 1):
-                sign = put if climb.is_won(seen, came + (put,)) else 1 - put
-                table[_number(view, free + (put,))] = sign
-                longer.append((seen, free + (put,), came + (sign,)))
-    return longer
+def _won_signs(spot, later, came):
+    # The sign put in, if it is won with the signs that came ahead; the other one, if not.
+    zeros = [0 if later.is_won(number) else 1 for number in came]
+    ones = [1 if later.is_won(number + (1 << spot.many)) else 0 for number in came]
+    return zeros + ones

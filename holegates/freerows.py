@@ -46,8 +46,8 @@ def free_rows(net, wish, name):
     if wrong is not None:
         raise Impossible(Wrong(wrong))
     task = Task(net.struck(name), wish)
-    # One sign is right at each row, the one that the gate has; where the other one is not, it matters.
-    held = [task.view(0, row) for row in range(task.many) if len(task.right_choices(row)) == 1]
+    # At each row the sign that the gate has is right; if the other one is not, it is held.
+    held = [views[0] for views, right in zip(task.views_at, task.right_at) if right != all_bits(1)]
     return tuple([number for number in range(1 << len(net.sources(name))) if number not in held])
 
 

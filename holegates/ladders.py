@@ -36,36 +36,41 @@ def ladder(task):
 
 def plan(task):
     """A Plan with a plain filling, or a Trap."""
-    climb = Climb(task, ladder(task))
-    tree = climb.trap(climb.rows, ())
-    return Plan(_won_filling(climb)) if tree is None else Trap(tree)
+    climb = climb_of(task)
+    return Plan(_won_filling(task, climb)) if climb.top.is_won(0) else Trap(climb.trap(climb.top, 0))
 
 
 def how_many(task):
     """How many right plain fillings there are."""
-    climb = Climb(task, ladder(task))
-    return _ways(climb, climb.rows, ())
+    return _ways(climb_of(task).top)[0]
 
 
-def _won_filling(climb):
-    tables = [[0] * (1 << len(sight)) for sight in climb.task.sights]
-    told = [(climb.rows, ())]
-    for step, hole in enumerate(climb.order):
+def climb_of(task):
+    """The climb along the task's ladder; raises what ladder raises."""
+    return Climb(task, ladder(task))
+
+
+def _won_filling(task, climb):
+    tables = [[0] * (1 << len(sight)) for sight in task.sights]
+    told = [(climb.top, 0)]
+    for hole in climb.order:
         longer = []
-        for rows, signs in told:
-            for view, seen in climb.parted(rows, step):
-                sign = 0 if climb.is_won(seen, signs + (0,)) else 1
-                tables[hole][view] = sign
-                longer.append((seen, signs + (sign,)))
+        for spot, number in told:
+            for later in spot.further:
+                sign = 0 if later.is_won(number) else 1
+                tables[hole][later.seen] = sign
+                longer.append((later, number + (sign << spot.many)))
         told = longer
     return tables
 
 
-def _ways(climb, rows, signs):
-    # The choices at unlike views are free of one another, so their numbers are multiplied.
-    if len(signs) == len(climb.order):
-        return 1 if climb.is_won(rows, signs) else 0
-    many = 1
-    for _, seen in climb.parted(rows, len(signs)):
-        many = many * (_ways(climb, seen, signs + (0,)) + _ways(climb, seen, signs + (1,)))
-    return many
+def _ways(spot):
+    # For each number of signs how many ways lead on. The choices at unlike views are free of one another,
+    # so what both signs of the next hole have together is multiplied over its views.
+    if not spot.further:
+        return [1 if spot.is_won(number) else 0 for number in range(1 << spot.many)]
+    ways = [1] * (1 << spot.many)
+    for later in spot.further:
+        more = _ways(later)
+        ways = [many * (zero + one) for many, zero, one in zip(ways, more, more[len(ways):])]
+    return ways

@@ -13,7 +13,7 @@ def fewest_rows(task):
     unknowns = [unknown for _, asked in parts_to_settle(task) for unknown in asked]
     if task.many > MOST_ROWS:
         raise TooMany("rows", MOST_ROWS)
-    right = right_at(task, range(task.many), unknowns)
+    right = right_at(task, list(range(task.many)), unknowns)
     for many in range(1, task.many + 1):
         for lot in combinations(range(task.many), many):
             if not right_at_all([right[row] for row in lot], unknowns):

@@ -72,4 +72,4 @@ def _need_sources_ahead(net, name, sources):
 def _are_mended(net, wish, one, other):
     task = Task(net.struck(one, net.inputs).struck(other, net.inputs), wish)
     # Both see all inputs, so they can make any choice at each row.
-    return all([task.right_choices(row) for row in range(task.many)])
+    return all([right != 0 for right in task.right_at])

@@ -1,39 +1,39 @@
 """The parts of a task, which can be filled one by one."""
 
+from holegates.tables import bits_of_place
 from holegates.tasks import need_task
+from holegates.wires import need_row
 
 
 def asks(task, row):
     """The lot of the numbers of the holes that the row asks."""
     need_task(task, "task")
-    right = task.right_choices(row)
-    return tuple([hole for hole in range(len(task.holes)) if _matters(right, hole)])
+    need_row(task.net, row)
+    many, right = len(task.holes), task.right_at[row]
+    return tuple([hole for hole in range(many) if _matters(right, many, hole)])
 
 
 def parts_of(task):
     """The parts of the task, pairs (rows, unknowns), by their least rows."""
     need_task(task, "task")
-    parts = []
+    parts, place = {}, {}
     for row in range(task.many):
-        parts = _joined(parts, row, [(hole, task.view(hole, row)) for hole in asks(task, row)])
-    return tuple(sorted([(tuple(sorted(rows)), tuple(sorted(set(unknowns)))) for rows, unknowns in parts]))
+        asked = [(hole, task.views_at[row][hole]) for hole in asks(task, row)]
+        # What the row asks may join parts that had nothing in common ahead of it.
+        joined = sorted(set([place[unknown] for unknown in asked if unknown in place]))
+        rows, unknowns = [row], asked
+        for least in joined:
+            more = parts.pop(least)
+            rows, unknowns = rows + more[0], unknowns + more[1]
+        least = min(rows)
+        parts[least] = (rows, unknowns)
+        for unknown in unknowns:
+            place[unknown] = least
+    return tuple([(tuple(sorted(rows)), tuple(sorted(set(unknowns)))) for _, (rows, unknowns) in sorted(parts.items())])
 
 
-def _matters(right, hole):
-    return any([_turned(choice, hole) not in right for choice in right])
-
-
-def _turned(choice, hole):
-    return tuple([1 - sign if at == hole else sign for at, sign in enumerate(choice)])
-
-
-def _joined(parts, row, asked):
-    # What the row asks may join parts that had nothing in common ahead of it.
-    rows, unknowns, others = [row], asked, []
-    for part in parts:
-        if any([unknown in part[1] for unknown in asked]):
-            rows = rows + part[0]
-            unknowns = unknowns + part[1]
-        else:
-            others.append(part)
-    return others + [(rows, unknowns)]
+def _matters(right, many, hole):
+    # Turning the hole's sign from 0 to 1 makes the number of a choice greater by this step.
+    ones = bits_of_place(many, hole)
+    step = 1 << (many - 1 - hole)
+    return (right ^ (right << step)) & ones != 0

@@ -6,10 +6,10 @@ from holegates.checks import first_twice
 from holegates.errors import Misfit, NoWire, TooMany, Twice
 from holegates.nets import need_wire
 from holegates.papers import Denial, Paper
-from holegates.single import need_one_hole, rows_wanting
+from holegates.single import first_clash, need_one_hole, rows_wanting
 from holegates.tables import told_in_twos
 from holegates.tasks import need_task
-from holegates.wires import column
+from holegates.wires import bits_with_holes, numbers_at_rows
 
 MOST_WIRES = 8
 
@@ -42,9 +42,9 @@ def enough(task, wires):
     """An Enough of a table of these wires in the order told, or a Short."""
     need_sure_wires(task, wires)
     told = numbers_told(task, wires)
-    for one, other in apart(task):
-        if told[one] == told[other]:
-            return Short(one, other)
+    clash = first_clash(task, told)
+    if clash is not None:
+        return Short(clash[0], clash[1])
     ones = [told[row] for row in rows_wanting(task, 1)]
     return Enough([1 if number in ones else 0 for number in range(1 << len(wires))])
 
@@ -88,8 +88,7 @@ def need_sure_wires(task, wires):
 
 def numbers_told(task, wires):
     """For each row the number of the setting that these sure wires have there."""
-    columns = [column(task.net, name) for name in wires]
-    return [told_in_twos([signs[row] for signs in columns]) for row in range(task.many)]
+    return numbers_at_rows(task.net, bits_with_holes(task.net), wires)
 
 
 def _need_unlike_wires(net, wires):

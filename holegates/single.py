@@ -28,15 +28,15 @@ class Clash(Denial):
 def between(task):
     """The Between of all right plain tables, or a Clash."""
     need_one_hole(task)
-    ones = rows_wanting(task, 1)
-    zeros = rows_wanting(task, 0)
-    for one in ones:
-        for other in zeros:
-            if task.view(0, one) == task.view(0, other):
-                return Clash(one, other)
-    unwanted = _views_at(task, zeros)
-    kept = [view for _, view in task.unknowns() if view not in unwanted]
-    return Between(_table_with(task, _views_at(task, ones)), _table_with(task, kept))
+    views = [seen[0] for seen in task.views_at]
+    clash = first_clash(task, views)
+    if clash is not None:
+        return Clash(clash[0], clash[1])
+    ones = [views[row] for row in rows_wanting(task, 1)]
+    zeros = [views[row] for row in rows_wanting(task, 0)]
+    table = range(1 << len(task.sights[0]))
+    greatest = [1 if view in views and view not in zeros else 0 for view in table]
+    return Between([1 if view in ones else 0 for view in table], greatest)
 
 
 def free_views(task):
@@ -72,7 +72,18 @@ def number_of(task, table):
 
 def wants(task, row, sign):
     """Whether the row of a task with one hole wants this sign."""
-    return (1 - sign,) not in task.right_choices(row)
+    return (task.right_at[row] >> (1 - sign)) & 1 == 0
+
+
+def first_clash(task, seen):
+    """The first pair of rows that see the same, as told for each row, one wanting 1 and the other 0; or None."""
+    zeros = {}
+    for row in rows_wanting(task, 0):
+        zeros.setdefault(seen[row], row)
+    for row in rows_wanting(task, 1):
+        if seen[row] in zeros:
+            return (row, zeros[seen[row]])
+    return None
 
 
 def rows_wanting(task, sign):
@@ -85,14 +96,6 @@ def need_one_hole(task):
     need_task(task, "task")
     if len(task.holes) != 1:
         raise Misfit("holes")
-
-
-def _views_at(task, rows):
-    return [task.view(0, row) for row in rows]
-
-
-def _table_with(task, views):
-    return [1 if view in views else 0 for view in range(1 << len(task.sights[0]))]
 
 
 def _need_between(task):

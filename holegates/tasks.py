@@ -3,12 +3,16 @@
 from holegates.checks import is_within
 from holegates.errors import BadFilling, BadTask, NoHole
 from holegates.nets import need_net, need_wire
-from holegates.tables import count_places, is_table, setting_of, told_in_twos
-from holegates.wires import any_choice, count_rows, need_row, signs_at
+from holegates.tables import all_bits, count_places, is_table, setting_told, told_in_twos
+from holegates.wires import bits_with_holes, count_rows, need_row, numbers_at_rows
 
 
 class Task:
     """A net and its wish, the wire that shall be 1 at all rows."""
+
+    # What is asked again and again is worked out once, for all rows and choices together: views_at has
+    # for each row the views of all holes, right_at an integer whose bits, at the numbers that the signs of
+    # the choices tell in twos, tell which of them are right there.
 
     def __init__(self, net, wish):
         need_net(net, "net")
@@ -18,7 +22,9 @@ class Task:
         self.many = count_rows(net)
         self.holes = net.holes
         self.sights = tuple([net.sources(name) for name in net.holes])
-        self._views = tuple([_views_at(net, self.sights, row) for row in range(self.many)])
+        bits = bits_with_holes(net)
+        self.views_at = _views_at_rows(net, bits, self.sights)
+        self.right_at = _right_at_rows(net, bits[wish])
 
     def __eq__(self, other):
         return type(self) is type(other) and self.net == other.net and self.wish == other.wish
@@ -27,18 +33,17 @@ class Task:
         """What the hole sees at the row, as a number."""
         self._need_hole(hole)
         need_row(self.net, row)
-        return self._views[row][hole]
+        return self.views_at[row][hole]
 
     def right_choices(self, row):
         """The choices with which the wish is 1 at the row, ascending."""
         need_row(self.net, row)
-        many = len(self.holes)
-        choices = [setting_of(many, number) for number in range(1 << many)]
-        return tuple([choice for choice in choices if self._is_right_at(row, choice)])
+        many, right = len(self.holes), self.right_at[row]
+        return tuple([setting_told(many, number) for number in range(1 << many) if (right >> number) & 1])
 
     def unknowns(self):
         """All pairs of a hole and a view that some row has, ascending."""
-        return tuple(sorted(set([pair for views in self._views for pair in enumerate(views)])))
+        return tuple(sorted(set([pair for views in self.views_at for pair in enumerate(views)])))
 
     def choice(self, filling, row):
         """The choice of the filling at the row."""
@@ -51,18 +56,18 @@ class Task:
         return self.first_wrong(filling) is None
 
     def first_wrong(self, filling):
-        """The least row at which the choice of the filling is wrong, None if there is none."""
+        """The least row at which the choice of the filling is not right, None if there is none."""
         self._need_filling(filling)
         for row in range(self.many):
-            if not self._is_right_at(row, self._made(filling, row)):
+            if not (self.right_at[row] >> told_in_twos(self._made(filling, row))) & 1:
                 return row
         return None
 
     def plain(self, filling):
         """The filling with 0 at all views that no row has."""
         self._need_filling(filling)
-        had = self.unknowns()
-        return tuple([_kept(table, [view for at, view in had if at == hole]) for hole, table in enumerate(filling)])
+        had = [[views[hole] for views in self.views_at] for hole in range(len(self.holes))]
+        return tuple([_kept(table, views) for table, views in zip(filling, had)])
 
     def filled(self, filling):
         """The net with the tables of the filling put in."""
@@ -86,10 +91,7 @@ class Task:
             raise BadFilling("filling")
 
     def _made(self, filling, row):
-        return tuple([table[view] for table, view in zip(filling, self._views[row])])
-
-    def _is_right_at(self, row, choice):
-        return signs_at(self.net, row, choice)[self.wish] == 1
+        return tuple([table[view] for table, view in zip(filling, self.views_at[row])])
 
 
 def need_task(value, part):
@@ -109,10 +111,16 @@ def _has_places(value, places):
     return is_table(value) and count_places(value) == places
 
 
-def _views_at(net, sights, row):
-    # Sources of holes are sure, so any choice tells their signs.
-    signs = signs_at(net, row, any_choice(net))
-    return tuple([told_in_twos([signs[source] for source in sight]) for sight in sights])
+def _views_at_rows(net, bits, sights):
+    seen = [numbers_at_rows(net, bits, sight) for sight in sights]
+    return tuple([tuple([views[row] for views in seen]) for row in range(count_rows(net))])
+
+
+def _right_at_rows(net, bits):
+    # The choices at one row stand side by side.
+    many = 1 << len(net.holes)
+    every = all_bits(len(net.holes))
+    return tuple([(bits >> (row * many)) & every for row in range(count_rows(net))])
 
 
 def _kept(table, views):

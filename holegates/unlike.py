@@ -73,12 +73,11 @@ def right_at_all(right, unknowns):
 
 def _right_at_row(task, row, unknowns):
     every = all_bits(len(unknowns))
-    right = task.right_choices(row)
-    choices = [setting_told(len(task.holes), number) for number in range(1 << len(task.holes))]
+    right = task.right_at[row]
+    worths = [every if (right >> number) & 1 else 0 for number in range(1 << len(task.holes))]
     told = dict(_with_bits(unknowns))
     # The row asks nothing but unknowns that are told, so others may have any sign.
-    signs = [told.get((hole, task.view(hole, row)), 0) for hole in range(len(task.holes))]
-    return bits_picked([every if choice in right else 0 for choice in choices], signs)
+    return bits_picked(worths, [told.get(unknown, 0) for unknown in enumerate(task.views_at[row])])
 
 
 def _with_bits(unknowns):
@@ -87,7 +86,7 @@ def _with_bits(unknowns):
 
 def _as_asked(task, rows):
     # In this order the signs of one row are named soon, and the tree can end there.
-    asked = [(hole, task.view(hole, row)) for row in rows for hole in asks(task, row)]
+    asked = [(hole, task.views_at[row][hole]) for row in rows for hole in asks(task, row)]
     return list({unknown: True for unknown in asked})
 
 

@@ -4,7 +4,7 @@ from holegates.checks import are_signs, is_within
 from holegates.errors import BadNumber, Misfit, NoRow, NoWire
 from holegates.nets import is_wire, need_net
 from holegates.papers import Denial, Paper
-from holegates.tables import all_bits, bits_of_place, bits_picked, setting_of, told_in_twos
+from holegates.tables import all_bits, bits_of_place, bits_picked, least_bit, setting_of, told_in_twos
 
 
 class Alike(Paper):
@@ -28,7 +28,10 @@ def run(net, row, choice):
     need_row(net, row)
     if not are_signs(choice) or len(choice) != len(net.holes):
         raise BadNumber("choice")
-    signs = signs_at(net, row, choice)
+    signs = dict(zip(net.inputs + net.holes, [*setting_of(len(net.inputs), row), *choice]))
+    for name, sources, table in net.gates:
+        if table is not None:
+            signs[name] = table[told_in_twos([signs[source] for source in sources])]
     return tuple([signs[name] for name in net.wires])
 
 
@@ -37,7 +40,7 @@ def column(net, name):
     need_net(net, "net")
     if not net.is_sure(name):
         raise Misfit("hole")
-    return _signs_of(net, name)
+    return tuple(signs_at_rows(net, bits_with_holes(net), name))
 
 
 def same_wire(one, other, name):
@@ -50,10 +53,8 @@ def same_wire(one, other, name):
         raise Misfit("holes")
     if one.inputs != other.inputs:
         raise Misfit("inputs")
-    for row, (first, second) in enumerate(zip(_signs_of(one, name), _signs_of(other, name))):
-        if first != second:
-            return Unlike(row)
-    return Alike()
+    turned = bits_with_holes(one)[name] ^ bits_with_holes(other)[name]
+    return Unlike(least_bit(turned)) if turned else Alike()
 
 
 def count_rows(net):
@@ -67,39 +68,40 @@ def need_row(net, row):
         raise NoRow(row)
 
 
-def signs_at(net, row, choice):
-    """As run, for what surely fits: a dict of the signs by the names of the wires."""
-    signs = dict(zip(net.inputs, setting_of(len(net.inputs), row)))
-    chosen = dict(zip(net.holes, choice))
-    for name, sources, table in net.gates:
-        if table is None:
-            signs[name] = chosen[name]
-        else:
-            signs[name] = table[told_in_twos([signs[source] for source in sources])]
-    return signs
+def bits_with_holes(net):
+    """By the names of the wires their signs, as bits, in all settings of the inputs and, behind them, of the holes."""
+    places = len(net.inputs) + len(net.holes)
+    return bits_of_wires(net, places, worths_of(net, places))
 
 
 def worths_of(net, places):
-    """By the names of the gates with a table the signs of it, each as bits in all settings of so many places."""
+    """By the names of the gates with a table its signs, each as bits in all settings of so many places."""
     every = all_bits(places)
     return {name: [every if sign else 0 for sign in table] for name, _, table in net.gates if table is not None}
 
 
 def bits_of_wires(net, places, worths):
-    """By the names of the wires their signs, as bits, in all settings of so many places, the inputs being the first.
+    """By the names of the wires their signs, as bits, in all settings of so many places.
 
-    The worths tell, by the names of the gates, the signs that these have at the settings of their sources.
+    The first places are those of the inputs, then those of the holes. The worths tell, by the names of
+    the other gates, what they have at the settings of their sources.
     """
-    told = {name: bits_of_place(places, at) for at, name in enumerate(net.inputs)}
-    for name, sources, _ in net.gates:
-        told[name] = bits_picked(worths[name], [told[source] for source in sources])
+    told = {name: bits_of_place(places, at) for at, name in enumerate(net.inputs + net.holes)}
+    for name, sources, table in net.gates:
+        if table is not None:
+            told[name] = bits_picked(worths[name], [told[source] for source in sources])
     return told
 
 
-def any_choice(net):
-    """A choice, for what is the same with each one."""
-    return [0] * len(net.holes)
+def signs_at_rows(net, bits, name):
+    """The signs of a sure wire at all rows, told by what bits_with_holes gives."""
+    # They are the same with each choice, so those with the first one will do.
+    return [(bits[name] >> (row << len(net.holes))) & 1 for row in range(count_rows(net))]
 
 
-def _signs_of(net, name):
-    return tuple([signs_at(net, row, any_choice(net))[name] for row in range(count_rows(net))])
+def numbers_at_rows(net, bits, names):
+    """For each row the number of the setting that these sure wires have there."""
+    numbers = [0] * count_rows(net)
+    for name in names:
+        numbers = [2 * number + sign for number, sign in zip(numbers, signs_at_rows(net, bits, name))]
+    return numbers
